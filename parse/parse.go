@@ -137,25 +137,19 @@ func (p *parser) comparison() tree.Node {
 	return left
 }
 
-func (p *parser) sum() tree.Node {
-	left := p.term()
-	for {
-		sign := p.takeAny(words.Plus, words.Minus)
-		if sign == words.End {
-			return left
-		}
-		left = binary(sign, left, p.term())
-	}
-}
+func (p *parser) sum() tree.Node { return p.chain(p.term, words.Plus, words.Minus) }
 
-func (p *parser) term() tree.Node {
-	left := p.call()
+func (p *parser) term() tree.Node { return p.chain(p.call, words.Times, words.Over) }
+
+// chain is parts with these signs between them: all but the last part are one expr.
+func (p *parser) chain(part func() tree.Node, signs ...words.Sort) tree.Node {
+	left := part()
 	for {
-		sign := p.takeAny(words.Times, words.Over)
+		sign := p.takeAny(signs...)
 		if sign == words.End {
 			return left
 		}
-		left = binary(sign, left, p.call())
+		left = binary(sign, left, part())
 	}
 }
 
