@@ -1,6 +1,7 @@
 package checks
 
 import (
+	"math"
 	"slices"
 	"strings"
 	"testing"
@@ -43,6 +44,7 @@ func TestEveryCallEnds(t *testing.T) {
 			t.Fatalf("Open(%q) = %v, %d, %d", text, x != nil, kind, at)
 		}
 		if x != nil {
+			holdRun(t, x, m.Intn(7)-2)
 			holdText(t, x, text)
 		}
 	}
@@ -50,6 +52,18 @@ func TestEveryCallEnds(t *testing.T) {
 		if seen[kind] < 100 {
 			t.Errorf("%d texts of kind %d: too few", seen[kind], kind)
 		}
+	}
+}
+
+// holdRun holds a run against the one of the greatest budget.
+func holdRun(t *testing.T, x *tailor.Text, budget int) {
+	t.Helper()
+	got, want := x.Run(budget), x.Run(math.MaxInt)
+	if most := min(max(budget, 0), api.MaxSteps); most < want.Steps {
+		want = api.Outcome{Kind: api.Steps, Steps: most}
+	}
+	if got != want || len(got.Shown) > api.MaxValue || (got.Shown == "") == (got.Kind == api.Done) {
+		t.Fatalf("Run(%d) of %q = %+v, want %+v", budget, x.Source(), got, want)
 	}
 }
 

@@ -4,6 +4,7 @@ package tailor
 import (
 	"tailor/api"
 	"tailor/parse"
+	"tailor/run"
 	"tailor/tree"
 	"tailor/types"
 	"tailor/words"
@@ -75,7 +76,9 @@ func (t *Text) Binders() []api.Binder {
 }
 
 // Run runs it (P5).
-func (t *Text) Run(steps int) api.Outcome { return api.Outcome{} }
+func (t *Text) Run(steps int) api.Outcome {
+	return run.Text(t.root, min(max(steps, 0), api.MaxSteps))
+}
 
 // Rename gives a binder another name (P6).
 func (t *Text) Rename(at int, name string) api.Kind { return api.Fine }

@@ -5,51 +5,45 @@ import (
 	"strconv"
 
 	"tailor/api"
+	"tailor/brief"
 )
 
-const (
-	tooLong = "..."
-	letters = 26
-)
+const letters = 26
 
-// writer shows a type. It stops once there are too many bytes, so that it ends soon whatever the type's size.
+// writer shows a type.
 type writer struct {
+	*brief.Writer
 	solver    *solver
-	shown     []byte
 	variables []ref // those that have come, in their order
 }
 
 func (s *solver) show(r ref) string {
-	w := &writer{solver: s}
+	w := &writer{Writer: brief.NewWriter(api.MaxShown), solver: s}
 	w.write(r)
-	if w.full() {
-		return tooLong
-	}
-	return string(w.shown)
+	return w.Told()
 }
 
-func (w *writer) full() bool { return len(w.shown) > api.MaxShown }
-
+// write stops at MaxShown: types share their parts, and one may have more of them than could be gone through.
 func (w *writer) write(r ref) {
-	if w.full() {
+	if w.Full() {
 		return
 	}
 	r = w.solver.find(r)
 	whole := w.solver.shapes[r]
 	switch whole.sort {
 	case variable:
-		w.put(variableName(w.number(r)))
+		w.Put(variableName(w.number(r)))
 	case integer:
-		w.put("int")
+		w.Put("int")
 	case truth:
-		w.put("bool")
+		w.Put("bool")
 	case function:
 		w.part(whole.left, w.sortOf(whole.left) == function)
-		w.put(" -> ")
+		w.Put(" -> ")
 		w.write(whole.right)
 	case pair:
 		w.part(whole.left, w.made(whole.left))
-		w.put(" * ")
+		w.Put(" * ")
 		w.part(whole.right, w.made(whole.right))
 	}
 }
@@ -59,12 +53,10 @@ func (w *writer) part(r ref, brackets bool) {
 		w.write(r)
 		return
 	}
-	w.put("(")
+	w.Put("(")
 	w.write(r)
-	w.put(")")
+	w.Put(")")
 }
-
-func (w *writer) put(bytes string) { w.shown = append(w.shown, bytes...) }
 
 func (w *writer) sortOf(r ref) sort { return w.solver.shapes[w.solver.find(r)].sort }
 
