@@ -46,12 +46,27 @@ func TestEveryCallEnds(t *testing.T) {
 		if x != nil {
 			holdRun(t, x, m.Intn(7)-2)
 			holdText(t, x, text)
+			m.ask(x)
+			holdRun(t, x, m.Intn(7)-2)
+			holdText(t, x, x.Source())
 		}
 	}
 	for _, kind := range []api.Kind{api.Fine, api.Long, api.Token, api.Form, api.Unbound, api.Types} {
 		if seen[kind] < 100 {
 			t.Errorf("%d texts of kind %d: too few", seen[kind], kind)
 		}
+	}
+}
+
+// ask makes requests of all sorts, at places within the text and outside of it.
+func (m maker) ask(x *tailor.Text) {
+	for _, at := range []int{math.MinInt, -1, m.Intn(40), m.Intn(300), len(x.Source()), math.MaxInt} {
+		x.Inline(at)
+		x.Rename(at, m.garble(m.pick("abc", "x", "let", "abcdef", "{}")))
+	}
+	for _, b := range x.Binders() {
+		x.Rename(b.At, m.garble("abc"))
+		x.Inline(b.At)
 	}
 }
 

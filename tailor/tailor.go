@@ -2,6 +2,7 @@
 package tailor
 
 import (
+	"tailor/alter"
 	"tailor/api"
 	"tailor/parse"
 	"tailor/run"
@@ -81,7 +82,23 @@ func (t *Text) Run(steps int) api.Outcome {
 }
 
 // Rename gives a binder another name (P6).
-func (t *Text) Rename(at int, name string) api.Kind { return api.Fine }
+func (t *Text) Rename(at int, name string) api.Kind {
+	return t.become(alter.Rename(t.source, t.root, at, name))
+}
 
 // Inline puts a definition in the places of its uses (P6).
-func (t *Text) Inline(at int) api.Kind { return api.Fine }
+func (t *Text) Inline(at int) api.Kind {
+	return t.become(alter.Inline(t.source, t.root, at))
+}
+
+// become changes the text to the one that a request has made, unless the request is refused. The faults that are left to a request are told in the order in which Open tells them.
+func (t *Text) become(source string, kind api.Kind) api.Kind {
+	if kind != api.Fine {
+		return kind
+	}
+	anew, kind, _ := Open(source)
+	if kind == api.Fine {
+		*t = *anew
+	}
+	return kind
+}

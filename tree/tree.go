@@ -16,11 +16,17 @@ type Span struct {
 // Place tells where the expr stands.
 func (s Span) Place() Span { return s }
 
+// Holds tells whether the place is within these bytes.
+func (s Span) Holds(at int) bool { return s.From <= at && at < s.To }
+
 // Binder is the name behind `let`, `rec` or `fun`, and its place.
 type Binder struct {
 	Name string
 	At   int
 }
+
+// Span is the binder's bytes.
+func (b *Binder) Span() Span { return Span{From: b.At, To: b.At + len(b.Name)} }
 
 // Name is a name that stands as an expr.
 type Name struct {

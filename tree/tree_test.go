@@ -61,6 +61,58 @@ func TestBindersAndUses(t *testing.T) {
 	}
 }
 
+func TestNodes(t *testing.T) {
+	got := ""
+	for n := range tree.Nodes(read(t, "let f = (1, fun x -> x) in if true then (snd) f else 1 + 2")) {
+		got += fmt.Sprintf("%T%d ", n, n.Place().From)
+	}
+	want := "*tree.Let0 *tree.Pair8 *tree.Int9 *tree.Fun12 *tree.Name21 *tree.If27 *tree.Truth30 *tree.Call40 *tree.Bracket40 *tree.Side41 *tree.Name46 *tree.Binary53 *tree.Int53 *tree.Int57 "
+	if got != want {
+		t.Errorf("Nodes: %s, want %s", got, want)
+	}
+}
+
+func TestFree(t *testing.T) {
+	for text, want := range map[string]string{
+		"1":                            "",
+		"fun x -> x":                   "",
+		"fun x -> y":                   "y9:x ",
+		"let x = x in y x":             "x8: y13:x ",
+		"let rec x = x y in z":         "y14:x z19:x ",
+		"(fun x -> fun z -> y, y) x":   "y19:xz y22: x25: ",
+		"let x = fun y -> x in x y":    "x17:y y24:x ",
+		"let z = 1 in fun y -> (z, x)": "x26:yz ",
+	} {
+		got := ""
+		for name, bound := range tree.Free(read(t, text)) {
+			got += fmt.Sprintf("%s%d:", name.Text, name.From)
+			for _, other := range []string{"x", "y", "z"} {
+				if _, ok := bound.Find(other); ok {
+					got += other
+				}
+			}
+			got += " "
+		}
+		if got != want {
+			t.Errorf("Free of %q: %s, want %s", text, got, want)
+		}
+	}
+}
+
+func TestReach(t *testing.T) {
+	for text, want := range map[string]string{
+		"1": "", "x y": "", "(fun x -> x)": "", "fun x -> 1": "9", "let x = 1 in 2": "13", "let rec x = 1 in 2": "12 17",
+	} {
+		var places []string
+		for _, part := range tree.Reach(read(t, text)) {
+			places = append(places, fmt.Sprint(part.Place().From))
+		}
+		if got := strings.Join(places, " "); got != want {
+			t.Errorf("Reach of %q: %s, want %s", text, got, want)
+		}
+	}
+}
+
 // A loop that ends early panics if a function over yield goes on.
 func TestLoopsMayEndEarly(t *testing.T) {
 	root := read(t, "let f = fun x -> (x, if x then x else x x * x) in let rec g = f in g (fun y -> f f g y)")
@@ -84,6 +136,15 @@ func TestLoopsMayEndEarly(t *testing.T) {
 				break
 			}
 		}
+		left = stop
+		for range tree.Nodes(root) {
+			if left--; left < 0 {
+				break
+			}
+		}
+	}
+	for range tree.Free(read(t, "(x, if x then x else x x * x)")) {
+		break
 	}
 	for stop := range binders {
 		left := stop

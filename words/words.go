@@ -64,6 +64,15 @@ func Split(text string) ([]Token, int, bool) {
 	return append(tokens, Token{Sort: End, From: at, To: at}), 0, true
 }
 
+// IsName tells whether the text is a NAME, from its first byte to its last one.
+func IsName(text string) bool {
+	if text == "" {
+		return false
+	}
+	sort, length := first(text)
+	return sort == Name && length == len(text)
+}
+
 // gap is the length of the blank or comment that rest begins with, 0 if it begins with none (a comment that does not end is none).
 func gap(rest string) int {
 	switch rest[0] {
@@ -80,8 +89,8 @@ func first(rest string) (Sort, int) {
 	switch {
 	case isSmall(rest[0]):
 		return word(run(rest, isWordByte))
-	case isDigit(rest[0]):
-		return number(run(rest, isDigit))
+	case IsDigit(rest[0]):
+		return number(run(rest, IsDigit))
 	case strings.HasPrefix(rest, "->"):
 		return Arrow, len("->")
 	}
@@ -165,6 +174,7 @@ func sign(c byte) (Sort, int) {
 
 func isSmall(c byte) bool { return 'a' <= c && c <= 'z' }
 
-func isDigit(c byte) bool { return '0' <= c && c <= '9' }
+// IsDigit tells whether the byte is one of an INT.
+func IsDigit(c byte) bool { return '0' <= c && c <= '9' }
 
-func isWordByte(c byte) bool { return isSmall(c) || isDigit(c) }
+func isWordByte(c byte) bool { return isSmall(c) || IsDigit(c) }

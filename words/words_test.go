@@ -51,3 +51,16 @@ func TestNoToken(t *testing.T) {
 		}
 	}
 }
+
+func TestIsName(t *testing.T) {
+	for _, name := range []string{"a", "z9", "abcdef", "letx", "i", "fst1"} {
+		if !IsName(name) {
+			t.Errorf("%q is a NAME", name)
+		}
+	}
+	for _, none := range []string{"", "let", "snd", "abcdefg", "abcde12", "1", "1a", "A", "aA", "a b", " a", "a ", "a{}", "{}a", "a-", "->", "\xff", "a\xff"} {
+		if IsName(none) {
+			t.Errorf("%q is no NAME", none)
+		}
+	}
+}
